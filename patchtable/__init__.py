@@ -1,0 +1,1 @@
+"""patchhall, layer c: the table. The calls are in patchtable.hall."""

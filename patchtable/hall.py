@@ -1,0 +1,174 @@
+"""The calls of the table: each takes a top, told by a block's text, and a table of its patches."""
+
+TOO_LONG = -2
+AT_FAULT = -6
+NOT_RIGHT = -9
+
+MOST_BYTES = 1024
+MOST_SQUARES = 6
+
+ROW_END = 10
+BLANK = 32
+SLASH = 47
+BACKSLASH = 92
+
+# Which square lies beyond a square's upper, right, lower and left side.
+STEP_ACROSS = (0, 1, 0, -1)
+STEP_DOWN = (-1, 0, 1, 0)
+
+
+def judge(text, table):
+    """Answer 0 if the table is a right one of the top, else the refusal."""
+    return [verdict(text, table)]
+
+
+def left(text, table):
+    """Answer 0 and how many pieces there are, or the refusal."""
+    answer = verdict(text, table)
+    if answer < 0:
+        return [answer]
+    return [answer, count_pieces(table)]
+
+
+def verdict(text, table):
+    """Give the first refusal that holds of those that all calls have, or 0."""
+    # The length is asked first: a text that is too long is at fault as well.
+    if len(text) > MOST_BYTES:
+        return TOO_LONG
+    rows = read_rows(text)
+    if rows is None:
+        return AT_FAULT
+    wide = len(rows[0])
+    patches = number_groups(quarter_letters(rows), wide)
+    if not is_right(table, patches, wide):
+        return NOT_RIGHT
+    return 0
+
+
+def read_rows(text):
+    """Read a block's text as rows of squares, or give None if it is at fault."""
+    lines = split_at(text, ROW_END)
+    # A row's end stands behind the last row too, so nothing may follow the last one.
+    if lines[-1] != []:
+        return None
+    rows = [read_row(line) for line in lines[:-1]]
+    if len(rows) < 1 or len(rows) > MOST_SQUARES:
+        return None
+    for row in rows:
+        if row is None or len(row) != len(rows[0]):
+            return None
+    return rows
+
+
+def read_row(line):
+    """Read a row's squares, or give None if one is wrong or there are too many."""
+    squares = [read_square(part) for part in split_at(line, BLANK)]
+    if None in squares or len(squares) > MOST_SQUARES:
+        return None
+    return squares
+
+
+def read_square(part):
+    """Read a square as its quarters' letters (upper, right, lower, left), or give None."""
+    if len(part) == 1:
+        quarters = part * 4
+    elif len(part) == 3 and part[1] == SLASH:
+        quarters = [part[0], part[2], part[2], part[0]]
+    elif len(part) == 3 and part[1] == BACKSLASH:
+        quarters = [part[0], part[0], part[2], part[2]]
+    elif len(part) == 4:
+        quarters = part
+    else:
+        return None
+    if not all([is_letter(byte) for byte in quarters]):
+        return None
+    return quarters
+
+
+def is_letter(byte):
+    """Tell whether a byte is A to Z or a to z."""
+    return 65 <= byte <= 90 or 97 <= byte <= 122
+
+
+def split_at(line, mark):
+    """Cut a row of bytes at each mark; the marks fall away, and parts may be empty."""
+    parts = [[]]
+    for byte in line:
+        if byte == mark:
+            parts.append([])
+        else:
+            parts[-1].append(byte)
+    return parts
+
+
+def quarter_letters(rows):
+    """Give the letters of all quarters, in the quarters' order."""
+    letters = []
+    for row in rows:
+        for square in row:
+            letters.extend(square)
+    return letters
+
+
+def quarters_beside(quarter, wide, high):
+    """Give the quarters that share a side with a quarter."""
+    square = quarter // 4
+    side = quarter % 4
+    found = [4 * square + (side + 1) % 4, 4 * square + (side + 3) % 4]
+    x = square % wide + STEP_ACROSS[side]
+    y = square // wide + STEP_DOWN[side]
+    if 0 <= x < wide and 0 <= y < high:
+        # Beyond a square's side lies the opposite quarter of the square there.
+        found.append(4 * (y * wide + x) + (side + 2) % 4)
+    return found
+
+
+def quarters_reached(start, marks, wide):
+    """Give the quarters that ways lead to from one, side by side, over quarters of its mark."""
+    high = len(marks) // (4 * wide)
+    found = [start]
+    seen = {start: True}
+    done = 0
+    while done < len(found):
+        for other in quarters_beside(found[done], wide, high):
+            if marks[other] == marks[start] and other not in seen:
+                seen[other] = True
+                found.append(other)
+        done += 1
+    return found
+
+
+def number_groups(marks, wide):
+    """Number what hangs together of one mark, as it comes first; give each quarter's number."""
+    numbers = {}
+    count = 0
+    for start in range(len(marks)):
+        if start not in numbers:
+            for quarter in quarters_reached(start, marks, wide):
+                numbers[quarter] = count
+            count += 1
+    return [numbers[quarter] for quarter in range(len(marks))]
+
+
+def is_right(table, patches, wide):
+    """Tell whether a table is a right one of a top, told by its quarters' patches."""
+    if len(table) != max(patches) + 1 or not tells_least(table):
+        return False
+    pieces = [table[patch] for patch in patches]
+    # A piece that doesn't hang together falls into several groups.
+    return max(number_groups(pieces, wide)) + 1 == count_pieces(table)
+
+
+def tells_least(table):
+    """Tell whether each patch is told the least patch of its piece."""
+    for patch in range(len(table)):
+        piece = table[patch]
+        # No patch beyond this one is looked up, so numbers that are no patch are safe.
+        if piece > patch or table[piece] != piece:
+            return False
+    return True
+
+
+def count_pieces(table):
+    """Count the pieces of a table: each has one patch that is told itself, its least."""
+    return len([patch for patch in range(len(table)) if table[patch] == patch])
