@@ -3,6 +3,8 @@
 TOO_LONG = -2
 AT_FAULT = -6
 NOT_RIGHT = -9
+NO_PIECE = -4
+NOT_SEWN = -5
 
 MOST_BYTES = 1024
 MOST_SQUARES = 6
@@ -15,6 +17,11 @@ BACKSLASH = 92
 # Which square lies beyond a square's upper, right, lower and left side.
 STEP_ACROSS = (0, 1, 0, -1)
 STEP_DOWN = (-1, 0, 1, 0)
+
+# Of upright, level, falling and rising lines, the direction that lies at right angles.
+CROSSWISE = (1, 0, 3, 2)
+# An at may be below 0; it is told with this more.
+AT_MORE = 64
 
 
 def judge(text, table):
@@ -30,6 +37,27 @@ def left(text, table):
     return [answer, count_pieces(table)]
 
 
+def may(i, j, text, table):
+    """Answer 0, 1 and the line along which pieces i and j may be sewn, or 0, 0, or the refusal."""
+    answer = verdict_on_two(i, j, text, table)
+    if answer < 0:
+        return [answer]
+    seam = find_seam(i, j, text, table)
+    if seam is None:
+        return [answer, 0]
+    return [answer, 1, seam[0], seam[1] + AT_MORE]
+
+
+def sew(i, j, text, table):
+    """Answer 0 and the table when pieces i and j are sewn, or the refusal."""
+    answer = verdict_on_two(i, j, text, table)
+    if answer < 0:
+        return [answer]
+    if find_seam(i, j, text, table) is None:
+        return [NOT_SEWN]
+    return [answer] + join_pieces(i, j, table)
+
+
 def verdict(text, table):
     """Give the first refusal that holds of those that all calls have, or 0."""
     # The length is asked first: a text that is too long is at fault as well.
@@ -38,11 +66,17 @@ def verdict(text, table):
     rows = read_rows(text)
     if rows is None:
         return AT_FAULT
-    wide = len(rows[0])
-    patches = number_groups(quarter_letters(rows), wide)
-    if not is_right(table, patches, wide):
+    if not is_right(table, quarter_patches(rows), len(rows[0])):
         return NOT_RIGHT
     return 0
+
+
+def verdict_on_two(i, j, text, table):
+    """Give the first refusal that holds of a call that names two pieces, or 0."""
+    answer = verdict(text, table)
+    if answer == 0 and not (is_piece(i, table) and is_piece(j, table)):
+        return NO_PIECE
+    return answer
 
 
 def read_rows(text):
@@ -110,6 +144,11 @@ def quarter_letters(rows):
     return letters
 
 
+def quarter_patches(rows):
+    """Give the patches of all quarters, in the quarters' order."""
+    return number_groups(quarter_letters(rows), len(rows[0]))
+
+
 def quarters_beside(quarter, wide, high):
     """Give the quarters that share a side with a quarter."""
     square = quarter // 4
@@ -172,3 +211,78 @@ def tells_least(table):
 def count_pieces(table):
     """Count the pieces of a table: each has one patch that is told itself, its least."""
     return len([patch for patch in range(len(table)) if table[patch] == patch])
+
+
+def is_piece(number, table):
+    """Tell whether a number is a piece of a right table: a patch that is told itself."""
+    return number < len(table) and table[number] == number
+
+
+def join_pieces(i, j, table):
+    """Give another table, in which two pieces are one."""
+    lesser = min(i, j)
+    greater = max(i, j)
+    return [lesser if piece == greater else piece for piece in table]
+
+
+def find_seam(i, j, text, table):
+    """Give the line along which two pieces of a right table may be sewn (direction, at), or None."""
+    rows = read_rows(text)
+    wide = len(rows[0])
+    pieces = [table[patch] for patch in quarter_patches(rows)]
+    for direction in range(len(CROSSWISE)):
+        stripes = [stripe_of(quarter, direction, wide) for quarter in range(len(pieces))]
+        for two in ((i, j), (j, i)):
+            at = line_between(two, pieces, stripes)
+            if at is not None and is_seam(two, pieces, direction, at, wide):
+                return (direction, at)
+    return None
+
+
+def stripe_of(quarter, direction, wide):
+    """Give the at of the last line of a direction that a quarter lies behind.
+
+    So a quarter lies before a line just if its stripe is below the line's at.
+    """
+    square = quarter // 4
+    side = quarter % 4
+    # A point inside the quarter, in fourths of a square: halfway from the middle to the square's side.
+    x = 4 * (square % wide) + 2 + STEP_ACROSS[side]
+    y = 4 * (square // wide) + 2 + STEP_DOWN[side]
+    return (x, y, x - y, x + y)[direction] // 4
+
+
+def line_between(two, pieces, stripes):
+    """Give the at of the line that the first piece ends at and the second begins at, or None.
+
+    On any other line that has the two before and behind it, one of them has no side; and a piece
+    never ends where it begins itself, so the same piece twice has none.
+    """
+    last = max([stripes[quarter] for quarter in range(len(pieces)) if pieces[quarter] == two[0]])
+    first = min([stripes[quarter] for quarter in range(len(pieces)) if pieces[quarter] == two[1]])
+    return first if last + 1 == first else None
+
+
+def is_seam(two, pieces, direction, at, wide):
+    """Tell whether a piece before a line and one behind it have just the same sides on it, in one stretch."""
+    places = []
+    for side in sides_on(direction, at, len(pieces), wide):
+        of_first = pieces[side[0]] == two[0]
+        of_second = pieces[side[1]] == two[1]
+        if of_first != of_second:
+            return False
+        if of_first:
+            # Sides that follow one another along a line lie in neighbouring stripes across it.
+            places.append(stripe_of(side[0], CROSSWISE[direction], wide))
+    return len(places) > 0 and max(places) - min(places) + 1 == len(places)
+
+
+def sides_on(direction, at, count, wide):
+    """Give a line's sides, each as the quarter before the line and the one behind it."""
+    high = count // (4 * wide)
+    sides = []
+    for quarter in range(count):
+        for other in quarters_beside(quarter, wide, high):
+            if stripe_of(quarter, direction, wide) < at <= stripe_of(other, direction, wide):
+                sides.append((quarter, other))
+    return sides
