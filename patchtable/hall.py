@@ -58,6 +58,25 @@ def sew(i, j, text, table):
     return [answer] + join_pieces(i, j, table)
 
 
+def pairs(text, table):
+    """Answer 0 and all pairs that may be sewn, one behind the other, or the refusal."""
+    answer = verdict(text, table)
+    if answer < 0:
+        return [answer]
+    found = [answer]
+    for two in find_pairs(text, table):
+        found.extend(two)
+    return found
+
+
+def can(text, table):
+    """Answer 0, then 1 if it can be finished, else 0; or the refusal."""
+    answer = verdict(text, table)
+    if answer < 0:
+        return [answer]
+    return [answer, 1 if can_be_finished(text, table) else 0]
+
+
 def verdict(text, table):
     """Give the first refusal that holds of those that all calls have, or 0."""
     # The length is asked first: a text that is too long is at fault as well.
@@ -225,17 +244,72 @@ def join_pieces(i, j, table):
     return [lesser if piece == greater else piece for piece in table]
 
 
+def quarter_pieces(rows, table):
+    """Give the pieces of all quarters, in the quarters' order."""
+    return [table[patch] for patch in quarter_patches(rows)]
+
+
 def find_seam(i, j, text, table):
     """Give the line along which two pieces of a right table may be sewn (direction, at), or None."""
     rows = read_rows(text)
     wide = len(rows[0])
-    pieces = [table[patch] for patch in quarter_patches(rows)]
-    for direction in range(len(CROSSWISE)):
-        stripes = [stripe_of(quarter, direction, wide) for quarter in range(len(pieces))]
-        for two in ((i, j), (j, i)):
-            at = line_between(two, pieces, stripes)
-            if at is not None and is_seam(two, pieces, direction, at, wide):
-                return (direction, at)
+    pieces = quarter_pieces(rows, table)
+    return seam_between(i, j, pieces, piece_spans(pieces, wide), wide)
+
+
+def find_pairs(text, table):
+    """Give all pairs of pieces of a right table that may be sewn, the lesser first, in order."""
+    rows = read_rows(text)
+    wide = len(rows[0])
+    pieces = quarter_pieces(rows, table)
+    spans = piece_spans(pieces, wide)
+    # Pieces that don't lie beside one another have no side in common.
+    return [two for two in pairs_beside(pieces, wide)
+            if seam_between(two[0], two[1], pieces, spans, wide) is not None]
+
+
+def pairs_beside(pieces, wide):
+    """Give all pairs of pieces that lie beside one another, the lesser first, in order."""
+    high = len(pieces) // (4 * wide)
+    found = {}
+    for quarter in range(len(pieces)):
+        for other in quarters_beside(quarter, wide, high):
+            if pieces[quarter] < pieces[other]:
+                found[(pieces[quarter], pieces[other])] = True
+    return sorted(found)
+
+
+def can_be_finished(text, table):
+    """Tell whether some sewing of a right table, pair by pair, comes to one piece.
+
+    The last seam goes straight through the whole top, the ones ahead of it straight through what
+    it joins, and so on: it can be finished just if lines part the top, and again each part, until
+    each is one piece. Any line that parts some pieces will do: the lines of another way still part
+    what lies on either side of it.
+    """
+    rows = read_rows(text)
+    spans = piece_spans(quarter_pieces(rows, table), len(rows[0]))
+    parts = [list(spans[0])]
+    while len(parts) > 0:
+        part = parts.pop()
+        if len(part) > 1:
+            two = part_in_two(part, spans)
+            if two is None:
+                return False
+            parts.extend(two)
+    return True
+
+
+def part_in_two(part, spans):
+    """Part some pieces by a line that cuts none: give those before and those behind it, or None."""
+    for reaches in spans:
+        firsts = [reaches[piece][0] for piece in part]
+        # Only between the least first and the greatest are there pieces on both sides.
+        for at in range(min(firsts) + 1, max(firsts) + 1):
+            before = [piece for piece in part if reaches[piece][1] < at]
+            behind = [piece for piece in part if reaches[piece][0] >= at]
+            if len(before) + len(behind) == len(part):
+                return (before, behind)
     return None
 
 
@@ -252,15 +326,34 @@ def stripe_of(quarter, direction, wide):
     return (x, y, x - y, x + y)[direction] // 4
 
 
-def line_between(two, pieces, stripes):
-    """Give the at of the line that the first piece ends at and the second begins at, or None.
+def piece_spans(pieces, wide):
+    """Give, direction by direction, of each piece the least and the greatest of its quarters' stripes."""
+    return [spans_across(direction, pieces, wide) for direction in range(len(CROSSWISE))]
 
-    On any other line that has the two before and behind it, one of them has no side; and a piece
-    never ends where it begins itself, so the same piece twice has none.
+
+def spans_across(direction, pieces, wide):
+    """Give of each piece the least and the greatest of its quarters' stripes of one direction."""
+    spans = {}
+    for quarter in range(len(pieces)):
+        stripe = stripe_of(quarter, direction, wide)
+        span = spans.get(pieces[quarter], (stripe, stripe))
+        spans[pieces[quarter]] = (min(span[0], stripe), max(span[1], stripe))
+    return spans
+
+
+def seam_between(i, j, pieces, spans, wide):
+    """Give the line along which two pieces may be sewn (direction, at), or None.
+
+    It is one that the one piece ends at and the other begins at: on any other line that has the
+    two before and behind it, one of them has no side. A piece never ends where it begins itself,
+    so the same piece twice has none.
     """
-    last = max([stripes[quarter] for quarter in range(len(pieces)) if pieces[quarter] == two[0]])
-    first = min([stripes[quarter] for quarter in range(len(pieces)) if pieces[quarter] == two[1]])
-    return first if last + 1 == first else None
+    for direction in range(len(spans)):
+        for two in ((i, j), (j, i)):
+            at = spans[direction][two[1]][0]
+            if spans[direction][two[0]][1] + 1 == at and is_seam(two, pieces, direction, at, wide):
+                return (direction, at)
+    return None
 
 
 def is_seam(two, pieces, direction, at, wide):

@@ -6,10 +6,21 @@ nothing with the program.
 """
 
 import functools
+import itertools
 import re
 import unittest
 
-from patchtable.hall import judge, left, may, sew
+from patchtable.hall import can, judge, left, may, pairs, sew
+
+NINE = "a b c\nd e f\ng h i\n"
+# All quarters of the largest top are patches by themselves: patch and quarter are the same.
+ALL_APART = "abcd efgh abcd efgh abcd efgh\nijkl mnop ijkl mnop ijkl mnop\n" * 3
+# Of these all right tables are gone through.
+SMALL_TOPS = ("a\n", "a/b\n", "a\\b\n", "abcd\n", "aaab\n", "abab\n", "a b\n", "a\nb\n", "a b c\nd e f\n",
+              "a b\nc d\ne f\n", "abcd e/f\n", "abcd\ne\\f\n", "abcd efgh\n", "a/b c\\d\ne f\n", "a\\b c\nd e\\f\n",
+              "a b/c\nd/e f\n", "a b a b a b\n", "a b b\na c d\n", "a a b b\na c d b\na a b b\n", "aacb a\nb\\a c\n",
+              "a\\b a a\nb c\\d a\nb b a\\b\n", "a a b\nc d b\nc e e\n", "a\\b c/d\ne/f g\\h\n", "x x a\nb/a a a\n",
+              NINE)
 
 SQUARE = r"[A-Za-z](?:[/\\][A-Za-z]|[A-Za-z]{3})?"
 ROW = re.compile(SQUARE + "(?: " + SQUARE + "){0,5}")
@@ -34,6 +45,8 @@ class CallCase(unittest.TestCase):
         self.assertEqual(left(bytes_of(words), list(table)), [number], (words, table))
         self.assertEqual(may(0, 1, bytes_of(words), list(table)), [number], (words, table))
         self.assertEqual(sew(0, 1, bytes_of(words), list(table)), [number], (words, table))
+        self.assertEqual(pairs(bytes_of(words), list(table)), [number], (words, table))
+        self.assertEqual(can(bytes_of(words), list(table)), [number], (words, table))
 
     def check_patches(self, words, count):
         """The beginning's table fits just one number of patches."""
@@ -50,7 +63,7 @@ class CallCase(unittest.TestCase):
 
     def check_sewn(self, words, table, i, j, direction, at):
         """Pieces i and j may be sewn along that line, and sewn they are one, told by the lesser."""
-        sewn = [min(i, j) if piece == max(i, j) else piece for piece in table]
+        sewn = joined(table, i, j)
         for one, other in ((i, j), (j, i)):
             where = (words, table, one, other)
             self.assertEqual(may(one, other, bytes_of(words), list(table)), [0, 1, direction, at + 64], where)
@@ -84,6 +97,19 @@ class CallCase(unittest.TestCase):
         else:
             self.check_not_sewn(words, table, i, j)
 
+    def check_pairs(self, words, table, *two_by_two):
+        """Just these pairs are told, in this order."""
+        flat = [piece for two in two_by_two for piece in two]
+        self.assertEqual(pairs(bytes_of(words), list(table)), [0] + flat, (words, table))
+
+    def check_can(self, words, table, number):
+        self.assertEqual(can(bytes_of(words), list(table)), [0, number], (words, table))
+
+
+def joined(table, i, j):
+    """The table when two pieces are one."""
+    return [min(i, j) if piece == max(i, j) else piece for piece in table]
+
 
 def model_answer(words, table):
     """The first refusal that holds and None, or 0 and the quarters of each piece."""
@@ -100,7 +126,7 @@ def model_answer(words, table):
     for patch, piece in enumerate(table):
         pieces.setdefault(piece, []).append(patch)
     for piece, members in pieces.items():
-        quarters = set().union(*[patches[patch] for patch in members])
+        quarters = frozenset().union(*[patches[patch] for patch in members])
         if piece != min(members) or hanging(min(quarters), quarters, sides) != quarters:
             return -9, None
         pieces[piece] = quarters
@@ -122,32 +148,107 @@ def model_patches(words):
 def model_seams(words, pieces, i, j):
     """All lines along which two pieces may be sewn, each as its direction and its at."""
     rows = model_rows(words)
-    wide, high = len(rows[0]), len(rows)
-    return [(direction, at) for direction in range(4) for at in range(-high - 1, wide + high + 2)
-            if i != j and (fits(wide, high, pieces[i], pieces[j], direction, at)
-                           or fits(wide, high, pieces[j], pieces[i], direction, at))]
+    return lines_between(len(rows[0]), len(rows), pieces[i], pieces[j])
+
+
+@functools.lru_cache(maxsize=None)
+def lines_between(wide, high, one, other):
+    return [(direction, at) for direction, at in all_lines(wide, high)
+            if one != other and (fits(wide, high, one, other, direction, at)
+                                 or fits(wide, high, other, one, direction, at))]
+
+
+def all_lines(wide, high):
+    return itertools.product(range(4), range(-high - 1, wide + high + 2))
+
+
+@functools.lru_cache(maxsize=None)
+def right_tables(words):
+    """All right tables of a top: whatever two pieces lie side by side, they are joined."""
+    rows = model_rows(words)
+    sides = side_owners(len(rows[0]), len(rows))
+    patches = model_patches(words)
+    owner = {quarter: patch for patch, quarters in enumerate(patches) for quarter in quarters}
+    beside = [[owner[quarter] for quarter in owners] for owners in sides.values() if len(owners) == 2]
+    tables = [tuple(start_table(len(patches)))]
+    seen = set(tables)
+    for table in tables:
+        for a, b in beside:
+            more = tuple(joined(table, table[a], table[b]))
+            if more not in seen:
+                seen.add(more)
+                tables.append(more)
+    return tables
+
+
+@functools.lru_cache(maxsize=None)
+def model_pairs(words, table):
+    """All pairs of a right table that may be sewn, in order."""
+    pieces = model_answer(words, table)[1]
+    return [(i, j) for i, j in itertools.combinations(sorted(pieces), 2) if model_seams(words, pieces, i, j)]
+
+
+@functools.lru_cache(maxsize=None)
+def model_can(words, table):
+    """Whether some sewing, pair by pair, comes to one piece: each one is gone through."""
+    return len(set(table)) == 1 or any(model_can(words, tuple(joined(table, i, j)))
+                                       for i, j in model_pairs(words, table))
+
+
+def model_straight(words, table):
+    """Whether the top whose patches are the pieces can be sewn by straight seams."""
+    rows = model_rows(words)
+    return parts_straight(len(rows[0]), len(rows), frozenset(model_answer(words, table)[1].values()))
+
+
+@functools.lru_cache(maxsize=None)
+def parts_straight(wide, high, pieces):
+    """Whether some line parts the pieces so that both sides can be parted on, each line being tried."""
+    if len(pieces) == 1:
+        return True
+    for direction, at in all_lines(wide, high):
+        offs = {piece: offs_of(piece, wide, high, direction, at) for piece in pieces}
+        before = frozenset(piece for piece in pieces if max(offs[piece]) <= 0)
+        behind = frozenset(piece for piece in pieces if min(offs[piece]) >= 0)
+        if before and behind and before | behind == pieces:
+            if parts_straight(wide, high, before) and parts_straight(wide, high, behind):
+                return True
+    return False
+
+
+def off_line(corner, direction, at):
+    """Below 0 before the line, 0 on it, above 0 behind it; corners are told in half squares."""
+    x, y = corner
+    return (x, y, x - y, x + y)[direction] - 2 * at
 
 
 def fits(wide, high, first, second, direction, at):
     """Whether the first lies before the line, the second behind it, with the same sides in one stretch."""
-    def off(corner):
-        x, y = corner
-        return (x, y, x - y, x + y)[direction] - 2 * at
-
     sides = side_owners(wide, high)
-    if any(off(corner) > 0 for corner in corners_of(first, sides)):
-        return False
-    if any(off(corner) < 0 for corner in corners_of(second, sides)):
+    if max(offs_of(first, wide, high, direction, at)) > 0 or min(offs_of(second, wide, high, direction, at)) < 0:
         return False
     # Of a side on the top's edge nothing lies beyond.
-    inner = [side for side, owners in sides.items() if len(owners) == 2 and all(off(corner) == 0 for corner in side)]
+    inner = [side for side, owners in sides.items() if len(owners) == 2
+             and all(off_line(corner, direction, at) == 0 for corner in side)]
     of_first = {side for side in inner if sides[side] & first}
     of_second = {side for side in inner if sides[side] & second}
     return of_first == of_second and len(of_first) > 0 and is_stretch(of_first)
 
 
-def corners_of(quarters, sides):
-    return {corner for side, owners in sides.items() if owners & quarters for corner in side}
+@functools.lru_cache(maxsize=None)
+def quarter_corners(wide, high):
+    """Of each quarter, the corners of its triangle."""
+    corners = {}
+    for side, owners in side_owners(wide, high).items():
+        for quarter in owners:
+            corners.setdefault(quarter, set()).update(side)
+    return corners
+
+
+def offs_of(quarters, wide, high, direction, at):
+    """How far off a line the corners of some quarters lie."""
+    corners = quarter_corners(wide, high)
+    return [off_line(corner, direction, at) for quarter in quarters for corner in corners[quarter]]
 
 
 def is_stretch(sides):

@@ -3,15 +3,11 @@
 import itertools
 import unittest
 
-from model import CallCase, bytes_of, model_answer, set_tables, start_table
+from model import ALL_APART, NINE, CallCase, bytes_of, model_answer, set_tables, start_table
 from patchtable.hall import judge, left, may, sew
 
 LARGEST = 4294967295
 UPRIGHT, LEVEL, FALLING, RISING = range(4)
-
-NINE = "a b c\nd e f\ng h i\n"
-# All quarters of the largest top are patches by themselves: patch and quarter are the same.
-ALL_APART = "abcd efgh abcd efgh abcd efgh\nijkl mnop ijkl mnop ijkl mnop\n" * 3
 
 
 class OneSquare(CallCase):

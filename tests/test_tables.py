@@ -3,7 +3,7 @@
 import itertools
 import unittest
 
-from model import CallCase, model_answer, set_tables, start_table
+from model import SMALL_TOPS, CallCase, model_answer, right_tables, set_tables, start_table
 
 LARGEST = 4294967295
 
@@ -109,6 +109,11 @@ class AllTables(CallCase):
             count = [n for n in range(1, 12) if model_answer(words, start_table(n))[0] == 0][0]
             for table in set_tables(count):
                 self.check_model(words, table)
+
+    def test_whatever_two_pieces_that_lie_beside_one_another_are_joined(self):
+        for words in SMALL_TOPS:
+            for table in right_tables(words):
+                self.check_right(words, table, len(set(table)))
 
     def test_one_number_off(self):
         words = "a b c\nd e/f g\\h\n"
