@@ -77,6 +77,19 @@ def can(text, table):
     return [answer, 1 if can_be_finished(text, table) else 0]
 
 
+def next_of(text, table):
+    """Answer 0 and the first pair that may be sewn and leaves it so that it can be finished, or the refusal."""
+    answer = verdict(text, table)
+    if answer < 0:
+        return [answer]
+    # What can't be finished stays so, whatever pair is sewn: none need be tried.
+    if can_be_finished(text, table):
+        for two in find_pairs(text, table):
+            if can_be_finished(text, join_pieces(two[0], two[1], table)):
+                return [answer, two[0], two[1]]
+    return [NOT_SEWN]
+
+
 def verdict(text, table):
     """Give the first refusal that holds of those that all calls have, or 0."""
     # The length is asked first: a text that is too long is at fault as well.

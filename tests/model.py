@@ -10,7 +10,7 @@ import itertools
 import re
 import unittest
 
-from patchtable.hall import can, judge, left, may, pairs, sew
+from patchtable.hall import can, judge, left, may, next_of, pairs, sew
 
 NINE = "a b c\nd e f\ng h i\n"
 # All quarters of the largest top are patches by themselves: patch and quarter are the same.
@@ -47,6 +47,7 @@ class CallCase(unittest.TestCase):
         self.assertEqual(sew(0, 1, bytes_of(words), list(table)), [number], (words, table))
         self.assertEqual(pairs(bytes_of(words), list(table)), [number], (words, table))
         self.assertEqual(can(bytes_of(words), list(table)), [number], (words, table))
+        self.assertEqual(next_of(bytes_of(words), list(table)), [number], (words, table))
 
     def check_patches(self, words, count):
         """The beginning's table fits just one number of patches."""
@@ -97,13 +98,24 @@ class CallCase(unittest.TestCase):
         else:
             self.check_not_sewn(words, table, i, j)
 
-    def check_pairs(self, words, table, *two_by_two):
+    def check_pairs(self, words, table, *told):
         """Just these pairs are told, in this order."""
-        flat = [piece for two in two_by_two for piece in two]
+        flat = [piece for two in told for piece in two]
         self.assertEqual(pairs(bytes_of(words), list(table)), [0] + flat, (words, table))
 
     def check_can(self, words, table, number):
         self.assertEqual(can(bytes_of(words), list(table)), [0, number], (words, table))
+
+    def check_next(self, words, table, i, j):
+        self.assertEqual(next_of(bytes_of(words), list(table)), [0, i, j], (words, table))
+
+    def check_no_next(self, words, table):
+        self.assertEqual(next_of(bytes_of(words), list(table)), [-5], (words, table))
+
+
+def two_by_two(answer):
+    """The pairs behind the 0, each as a tuple."""
+    return list(zip(answer[1::2], answer[2::2], strict=True))
 
 
 def joined(table, i, j):
@@ -193,6 +205,12 @@ def model_can(words, table):
     """Whether some sewing, pair by pair, comes to one piece: each one is gone through."""
     return len(set(table)) == 1 or any(model_can(words, tuple(joined(table, i, j)))
                                        for i, j in model_pairs(words, table))
+
+
+def model_next(words, table):
+    """The first pair that may be sewn and leaves it so that some sewing comes to one piece, or None."""
+    good = [(i, j) for i, j in model_pairs(words, table) if model_can(words, tuple(joined(table, i, j)))]
+    return good[0] if good else None
 
 
 def model_straight(words, table):
@@ -312,3 +330,44 @@ def set_tables(count):
     for patch in range(count):
         tables = [table + [piece] for table in tables for piece in sorted(set(table)) + [patch]]
     return tables
+
+
+def part_largest(quarters, direction, at):
+    """Those of the largest top's quarters that lie before a line, and those behind it, if there are any."""
+    corners = quarter_corners(6, 6)
+    behind = frozenset(quarter for quarter in quarters
+                       if sum(off_line(corner, direction, at) for corner in corners[quarter]) > 0)
+    return [half for half in (quarters - behind, behind) if half]
+
+
+def cut_at_random(quarters, pick):
+    """Cut by some straight lines, each through one of the parts."""
+    parts = [quarters]
+    for _ in range(60):
+        part = parts.pop(pick.randrange(len(parts)))
+        parts += part_largest(part, pick.randrange(4), pick.randrange(-5, 12))
+    return parts
+
+
+def cut_about(x, y):
+    """Cut nine squares out of the largest top by straight lines; what else is left."""
+    parts = [frozenset(range(144))]
+    for direction, at in ((0, x), (0, x + 3), (1, y), (1, y + 3)):
+        parts = [half for part in parts for half in part_largest(part, direction, at)]
+    return [part for part in parts if 4 * (6 * y + x) not in part]
+
+
+def table_of(parts):
+    """The table in which the parts are the pieces; each quarter is a patch by itself."""
+    table = [0] * 144
+    for part in parts:
+        for quarter in part:
+            table[quarter] = min(part)
+    return table
+
+
+def about_the_middle(x, y):
+    """Nine squares of the largest top as four pairs about a middle one."""
+    pairs_of_squares = (((0, 0), (1, 0)), ((2, 0), (2, 1)), ((0, 1), (0, 2)), ((1, 2), (2, 2)), ((1, 1),))
+    return [frozenset(4 * (6 * (y + down) + x + across) + side for across, down in squares for side in range(4))
+            for squares in pairs_of_squares]

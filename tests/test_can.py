@@ -3,8 +3,8 @@
 import random
 import unittest
 
-from model import (ALL_APART, NINE, SMALL_TOPS, CallCase, bytes_of, joined, model_can, model_pairs, model_straight,
-                   off_line, quarter_corners, right_tables, start_table)
+from model import (ALL_APART, NINE, SMALL_TOPS, CallCase, about_the_middle, bytes_of, cut_about, cut_at_random, joined,
+                   model_can, model_pairs, model_straight, right_tables, start_table, table_of, two_by_two)
 from patchtable.hall import can, may, pairs, sew
 
 LARGEST = 4294967295
@@ -87,10 +87,10 @@ class FromTheBeginning(CallCase):
 
 
 class SewnFurther(CallCase):
-    def sew_all(self, words, count, *two_by_two):
+    def sew_all(self, words, count, *told):
         """Sew pairs from the beginning, each of which may be sewn."""
         table = start_table(count)
-        for i, j in two_by_two:
+        for i, j in told:
             answer = sew(i, j, bytes_of(words), table)
             self.assertEqual(answer[0], 0)
             table = answer[1:]
@@ -162,7 +162,7 @@ class StaysSo(CallCase):
             text = bytes_of(words)
             for table in right_tables(words):
                 answer = pairs(text, list(table))
-                behind = [can(text, sew(i, j, text, list(table))[1:])[1] for i, j in zip(answer[1::2], answer[2::2])]
+                behind = [can(text, sew(i, j, text, list(table))[1:])[1] for i, j in two_by_two(answer)]
                 if can(text, list(table)) == [0, 0]:
                     self.assertNotIn(1, behind, (words, table))
                 elif len(set(table)) > 1:
@@ -212,45 +212,10 @@ class Largest(CallCase):
         for seed in range(40):
             pick = random.Random(seed)
             x, y = pick.randrange(4), pick.randrange(4)
-            arms = [frozenset(4 * (6 * (y + down) + x + across) + side for across, down in arm for side in range(4))
-                    for arm in (((0, 0), (1, 0)), ((2, 0), (2, 1)), ((0, 1), (0, 2)), ((1, 2), (2, 2)), ((1, 1),))]
+            arms = about_the_middle(x, y)
             rest = [small for part in cut_about(x, y) for small in cut_at_random(part, pick)]
             self.check_can(ALL_APART, table_of(rest + arms), 0)
             self.check_can(ALL_APART, table_of(rest + [frozenset().union(*arms)]), 1)
-
-
-def part_largest(quarters, direction, at):
-    """Those of the largest top's quarters that lie before a line, and those behind it, if there are any."""
-    corners = quarter_corners(6, 6)
-    behind = frozenset(quarter for quarter in quarters
-                       if sum(off_line(corner, direction, at) for corner in corners[quarter]) > 0)
-    return [half for half in (quarters - behind, behind) if half]
-
-
-def cut_at_random(quarters, pick):
-    """Cut by some straight lines, each through one of the parts."""
-    parts = [quarters]
-    for _ in range(60):
-        part = parts.pop(pick.randrange(len(parts)))
-        parts += part_largest(part, pick.randrange(4), pick.randrange(-5, 12))
-    return parts
-
-
-def cut_about(x, y):
-    """Cut nine squares out of the largest top by straight lines; what else is left."""
-    parts = [frozenset(range(144))]
-    for direction, at in ((0, x), (0, x + 3), (1, y), (1, y + 3)):
-        parts = [half for part in parts for half in part_largest(part, direction, at)]
-    return [part for part in parts if 4 * (6 * y + x) not in part]
-
-
-def table_of(parts):
-    """The table in which the parts are the pieces; each quarter is a patch by itself."""
-    table = [0] * 144
-    for part in parts:
-        for quarter in part:
-            table[quarter] = min(part)
-    return table
 
 
 class RefusalOrder(CallCase):

@@ -10,41 +10,44 @@ import patchtable
 import patchtable.hall
 from model import ALL_APART, NINE, bytes_of, start_table
 
-ON_A_TABLE = (patchtable.hall.judge, patchtable.hall.left, patchtable.hall.pairs, patchtable.hall.can)
+ON_A_TABLE = (patchtable.hall.judge, patchtable.hall.left, patchtable.hall.pairs, patchtable.hall.can,
+              patchtable.hall.next_of)
 ON_TWO_PIECES = (patchtable.hall.may, patchtable.hall.sew)
 
 MIXED = "a/b c\\d\nefgh i\n"
 MIXED_PAIRS = [0, 0, 1, 1, 3, 1, 4, 2, 3, 3, 8, 4, 5, 4, 7, 5, 6, 5, 8, 6, 7]
 
-# Two pieces, text, table, and what judge, left, pairs, can, may and sew answer.
+# Two pieces, text, table, and what judge, left, pairs, can, next_of, may and sew answer.
 CASES = (
-    (0, 0, "a\n", [0], [0], [0, 1], [0], [0, 1], [0, 0], [-5]),
-    (2, 0, "a b\nc d\n", [0, 0, 2, 2], [0], [0, 2], [0, 0, 2], [0, 1], [0, 1, 1, 65], [0, 0, 0, 0, 0]),
-    (6, 5, MIXED, start_table(9), [0], [0, 9], MIXED_PAIRS, [0, 1], [0, 1, 2, 63], [0, 0, 1, 2, 3, 4, 5, 5, 7, 8]),
-    (0, 1, MIXED, start_table(9), [0], [0, 9], MIXED_PAIRS, [0, 1], [0, 1, 3, 65], [0, 0, 0, 2, 3, 4, 5, 6, 7, 8]),
-    (0, 2, "a b c\nd e f\n", [0, 0, 2, 0, 4, 2], [0], [0, 3], [0], [0, 0], [0, 0], [-5]),
-    (4, 2, "a b c\nd e f\n", [0, 0, 2, 0, 4, 2], [0], [0, 3], [0], [0, 0], [0, 0], [-5]),
-    (7, 8, NINE, [0, 0, 2, 3, 4, 2, 3, 7, 8], [0], [0, 6], [0, 2, 8, 4, 7, 7, 8], [0, 1], [0, 1, 0, 66],
+    (0, 0, "a\n", [0], [0], [0, 1], [0], [0, 1], [-5], [0, 0], [-5]),
+    (2, 0, "a b\nc d\n", [0, 0, 2, 2], [0], [0, 2], [0, 0, 2], [0, 1], [0, 0, 2], [0, 1, 1, 65], [0, 0, 0, 0, 0]),
+    (6, 5, MIXED, start_table(9), [0], [0, 9], MIXED_PAIRS, [0, 1], [0, 0, 1], [0, 1, 2, 63],
+     [0, 0, 1, 2, 3, 4, 5, 5, 7, 8]),
+    (0, 1, MIXED, start_table(9), [0], [0, 9], MIXED_PAIRS, [0, 1], [0, 0, 1], [0, 1, 3, 65],
+     [0, 0, 0, 2, 3, 4, 5, 6, 7, 8]),
+    (0, 2, "a b c\nd e f\n", [0, 0, 2, 0, 4, 2], [0], [0, 3], [0], [0, 0], [-5], [0, 0], [-5]),
+    (4, 2, "a b c\nd e f\n", [0, 0, 2, 0, 4, 2], [0], [0, 3], [0], [0, 0], [-5], [0, 0], [-5]),
+    (1, 0, NINE, [0, 1, 2, 3, 4, 2, 3, 7, 7], [0], [0, 6], [0, 0, 1, 0, 3, 1, 4], [0, 1], [0, 0, 3], [0, 1, 0, 65],
      [0, 0, 0, 2, 3, 4, 2, 3, 7, 7]),
-    (7, 4, NINE, [0, 0, 2, 3, 4, 2, 3, 7, 7], [0], [0, 5], [0], [0, 0], [0, 0], [-5]),
-    (1, 0, "a a\na a\n", [0], [0], [0, 1], [0], [0, 1], [-4], [-4]),
-    (0, 4294967295, "a b\n", [0, 1], [0], [0, 2], [0, 0, 1], [0, 1], [-4], [-4]),
-    (0, 1, "a b\n", [0, 0], [0], [0, 1], [0], [0, 1], [-4], [-4]),
-    (0, 1, "a b\n", [0, 1], [0], [0, 2], [0, 0, 1], [0, 1], [0, 1, 0, 65], [0, 0, 0]),
-    (0, 0, "a\n" * 513, [0]) + 6 * ([-2],),
-    (0, 1, "a  b\n", [0, 1]) + 6 * ([-6],),
-    (0, 0, "", []) + 6 * ([-6],),
-    (0, 1, "a b c\n", [0, 1, 0]) + 6 * ([-9],),
-    (0, 1, "a b\n", [0, 4294967295]) + 6 * ([-9],),
-    (0, 0, "a b\n", [0]) + 6 * ([-9],),
+    (7, 4, NINE, [0, 0, 2, 3, 4, 2, 3, 7, 7], [0], [0, 5], [0], [0, 0], [-5], [0, 0], [-5]),
+    (1, 0, "a a\na a\n", [0], [0], [0, 1], [0], [0, 1], [-5], [-4], [-4]),
+    (0, 4294967295, "a b\n", [0, 1], [0], [0, 2], [0, 0, 1], [0, 1], [0, 0, 1], [-4], [-4]),
+    (0, 1, "a b\n", [0, 0], [0], [0, 1], [0], [0, 1], [-5], [-4], [-4]),
+    (0, 1, "a b\n", [0, 1], [0], [0, 2], [0, 0, 1], [0, 1], [0, 0, 1], [0, 1, 0, 65], [0, 0, 0]),
+    (0, 0, "a\n" * 513, [0]) + 7 * ([-2],),
+    (0, 1, "a  b\n", [0, 1]) + 7 * ([-6],),
+    (0, 0, "", []) + 7 * ([-6],),
+    (0, 1, "a b c\n", [0, 1, 0]) + 7 * ([-9],),
+    (0, 1, "a b\n", [0, 4294967295]) + 7 * ([-9],),
+    (0, 0, "a b\n", [0]) + 7 * ([-9],),
 )
 
 LONG_CASES = (
-    (0, 0, "a a a a a a\n" * 6, [0], [0], [0, 1], [0], [0, 1], [0, 0], [-5]),
-    (0, 0, ALL_APART, [0] * 144, [0], [0, 1], [0], [0, 1], [0, 0], [-5]),
-    (0, 72, ALL_APART, [0] * 72 + [72] * 72, [0], [0, 2], [0, 0, 72], [0, 1], [0, 1, 1, 67], [0] * 145),
-    (0, 1, "a" * 1024, [0] * 2000) + 6 * ([-6],),
-    (0, 1, "a\n", start_table(2000)) + 6 * ([-9],),
+    (0, 0, "a a a a a a\n" * 6, [0], [0], [0, 1], [0], [0, 1], [-5], [0, 0], [-5]),
+    (0, 0, ALL_APART, [0] * 144, [0], [0, 1], [0], [0, 1], [-5], [0, 0], [-5]),
+    (0, 72, ALL_APART, [0] * 72 + [72] * 72, [0], [0, 2], [0, 0, 72], [0, 1], [0, 0, 72], [0, 1, 1, 67], [0] * 145),
+    (0, 1, "a" * 1024, [0] * 2000) + 7 * ([-6],),
+    (0, 1, "a\n", start_table(2000)) + 7 * ([-9],),
 )
 
 
@@ -72,7 +75,7 @@ class Interface(unittest.TestCase):
     def test_names_and_arguments(self):
         for call in ON_A_TABLE:
             self.assertEqual(list(inspect.signature(call).parameters), ["text", "table"])
-            self.assertEqual(call(table=[0], text=bytes_of("a\n"))[0], 0)
+            self.assertEqual(call(table=[0, 1], text=bytes_of("a b\n"))[0], 0)
         for call in ON_TWO_PIECES:
             self.assertEqual(list(inspect.signature(call).parameters), ["i", "j", "text", "table"])
             self.assertEqual(call(table=[0, 1], text=bytes_of("a b\n"), j=1, i=0)[0], 0)
@@ -116,13 +119,13 @@ class Interface(unittest.TestCase):
 
     def test_what_was_handed_in_may_be_changed_behind_the_call(self):
         text, table = bytes_of("a b\n"), [0, 1]
-        right = [[0], [0, 2], [0, 0, 1], [0, 1], [0, 1, 0, 65], [0, 0, 0]]
+        right = [[0], [0, 2], [0, 0, 1], [0, 1], [0, 0, 1], [0, 1, 0, 65], [0, 0, 0]]
         self.assertEqual(ask_all(0, 1, text, table), right)
         text[1] = 0
-        self.assertEqual(ask_all(0, 1, text, table), [[-6]] * 6)
+        self.assertEqual(ask_all(0, 1, text, table), [[-6]] * 7)
         text[1] = 32
         table[1] = 2
-        self.assertEqual(ask_all(0, 1, text, table), [[-9]] * 6)
+        self.assertEqual(ask_all(0, 1, text, table), [[-9]] * 7)
         table[1] = 1
         self.assertEqual(ask_all(0, 1, text, table), right)
 

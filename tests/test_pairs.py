@@ -5,7 +5,7 @@ import random
 import unittest
 
 from model import (ALL_APART, NINE, SMALL_TOPS, CallCase, bytes_of, fits, model_answer, model_pairs, right_tables,
-                   start_table)
+                   start_table, two_by_two)
 from patchtable.hall import may, pairs, sew
 
 LARGEST = 4294967295
@@ -130,11 +130,6 @@ class Order(CallCase):
         self.check_pairs("abcd efgh\n", start_table(8), (0, 1), (0, 3), (1, 2), (1, 7), (2, 3), (4, 5), (4, 7), (5, 6),
                          (6, 7))
         self.check_pairs("a b c\nd e f\n", [0, 1, 2, 0, 1, 5], (0, 1), (2, 5))
-
-
-def two_by_two(answer):
-    """The pairs behind the 0, each as a tuple."""
-    return list(zip(answer[1::2], answer[2::2], strict=True))
 
 
 class AsMay(CallCase):
